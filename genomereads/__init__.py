@@ -1,0 +1,1 @@
+"""Reads of a genome. The calls lie in genomereads.bench."""

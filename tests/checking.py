@@ -1,0 +1,43 @@
+"""What several test files share."""
+
+import unittest
+
+
+class Sealed(list):
+    """A list that fails at any change, also one that would be taken back later."""
+
+    def refuse(self, *args, **kwargs):
+        raise AssertionError("a list that was handed in is changed")
+
+    __setitem__ = __delitem__ = __iadd__ = __imul__ = refuse
+    append = clear = extend = insert = pop = remove = reverse = sort = refuse
+
+
+def packed_bytes(codes):
+    # One great number, so that the tests don't repeat the way the program goes.
+    number = int("".join(str(code) for code in reversed(codes)) or "0", 4)
+    return list(number.to_bytes((len(codes) + 3) // 4, "little"))
+
+
+def long_codes(n):
+    # Not a multiple of 4 in its rhythm, so that bases in wrong places show.
+    return [(i * i + i // 7) % 4 for i in range(n)]
+
+
+class CallCase(unittest.TestCase):
+    maxDiff = 400
+
+    def check(self, call, arguments, wanted):
+        """The answer, its kinds, what was handed in, and the same once more."""
+        before = [list(a) if isinstance(a, list) else a for a in arguments]
+        first = call(*arguments)
+        self.assertIs(type(first), list)
+        self.assertTrue(all(type(number) is int for number in first), "not all are whole numbers")
+        self.assertEqual(first, wanted)
+        self.assertEqual(arguments, before)
+        first.append(7)
+        first[0] = 99
+        self.assertEqual(call(*arguments), wanted)
+        sealed = [Sealed(a) if isinstance(a, list) else a for a in arguments]
+        self.assertEqual(call(*sealed), wanted)
+        self.assertEqual(arguments, before)

@@ -1,0 +1,49 @@
+"""The interface: names and parameters as they stand; nothing printed, read or imported."""
+
+import inspect
+import os
+import subprocess
+import sys
+import unittest
+
+from genomereads import bench
+
+TOP = os.path.dirname(os.path.dirname(os.path.abspath(__file__)))
+
+# Python tells its audit hooks of every file, import, process and socket; a call of the program causes none.
+QUIET = """
+import sys
+known = set(sys.modules)
+import genomereads.bench as bench
+foreign = [name for name in set(sys.modules) - known if name.split(".")[0] != "genomereads"]
+events = []
+watching = [True]
+sys.addaudithook(lambda event, arguments: events.append(event) if watching[0] else None)
+bench.pack([65, 99, 71])
+bench.pack([78])
+bench.unpack([228], 3)
+bench.unpack([], -1)
+watching[0] = False
+if foreign or events:
+    sys.exit(repr((foreign, events)))
+"""
+
+
+class Interface(unittest.TestCase):
+    def test_parameters(self):
+        self.assertEqual(list(inspect.signature(bench.pack).parameters), ["letters"])
+        self.assertEqual(list(inspect.signature(bench.unpack).parameters), ["bases", "n"])
+
+    def test_by_name(self):
+        self.assertEqual(bench.pack(letters=[84]), [0, 1, 3])
+        self.assertEqual(bench.unpack(bases=[3], n=1), [0, 1, 84])
+
+    def test_nothing_printed_read_or_imported(self):
+        done = subprocess.run(
+            [sys.executable, "-B", "-c", QUIET], cwd=TOP, stdin=subprocess.DEVNULL, capture_output=True, text=True
+        )
+        self.assertEqual((done.returncode, done.stdout, done.stderr), (0, "", ""))
+
+
+if __name__ == "__main__":
+    unittest.main()
