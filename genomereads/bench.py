@@ -1,6 +1,8 @@
 """The calls: each takes lists and whole numbers and gives back one list of whole numbers."""
 
-MOST_BASES = 65536
+from genomereads.limits import MOST_BASES, outside
+from genomereads.packing import other_strand, read_bases, write_bases
+
 CAPITALS = (65, 67, 71, 84)
 BASE_OF_LETTER = {65: 0, 67: 1, 71: 2, 84: 3, 97: 0, 99: 1, 103: 2, 116: 3}
 
@@ -16,23 +18,26 @@ def pack(letters):
 
 
 def unpack(bases, n):
-    if n < 0 or n > MOST_BASES:
+    if outside(n, 0, MOST_BASES):
         return [-1]
-    return answer(0, [CAPITALS[base_at(bases, place)] for place in range(n)])
+    return answer(0, [CAPITALS[code] for code in read_bases(bases, 0, n)])
+
+
+def turn(bases, n):
+    if outside(n, 0, MOST_BASES):
+        return [-1]
+    return answer(0, write_bases(other_strand(read_bases(bases, 0, n))))
+
+
+def count(bases, n, begin, end):
+    if outside(n, 0, MOST_BASES) or outside(begin, 0, n) or outside(end, begin, n):
+        return [-1]
+    counts = [0, 0, 0, 0]
+    for code in read_bases(bases, begin, end - begin):
+        counts[code] += 1
+    return answer(0, counts)
 
 
 def answer(first, part):
     # The length stands there for an empty part too, so that every accepted answer has one form.
     return [first, len(part)] + part
-
-
-def base_at(bases, place):
-    return (bases[place // 4] >> (2 * (place % 4))) & 3
-
-
-def write_bases(codes):
-    # Starting from zeros leaves the bits behind the last base 0, as the document asks of what is written.
-    packed = [0] * ((len(codes) + 3) // 4)
-    for place, code in enumerate(codes):
-        packed[place // 4] = packed[place // 4] | (code << (2 * (place % 4)))
-    return packed

@@ -2,6 +2,9 @@
 
 import unittest
 
+LEAST = -2147483648
+GREATEST = 2147483647
+
 
 class Sealed(list):
     """A list that fails at any change, also one that would be taken back later."""

@@ -23,6 +23,10 @@ bench.pack([65, 99, 71])
 bench.pack([78])
 bench.unpack([228], 3)
 bench.unpack([], -1)
+bench.turn([228], 3)
+bench.turn([], -1)
+bench.count([228], 4, 1, 3)
+bench.count([228], 4, 3, 1)
 watching[0] = False
 if foreign or events:
     sys.exit(repr((foreign, events)))
@@ -31,12 +35,20 @@ if foreign or events:
 
 class Interface(unittest.TestCase):
     def test_parameters(self):
-        self.assertEqual(list(inspect.signature(bench.pack).parameters), ["letters"])
-        self.assertEqual(list(inspect.signature(bench.unpack).parameters), ["bases", "n"])
+        for call, wanted in (
+            (bench.pack, ["letters"]),
+            (bench.unpack, ["bases", "n"]),
+            (bench.turn, ["bases", "n"]),
+            (bench.count, ["bases", "n", "begin", "end"]),
+        ):
+            with self.subTest(call=call):
+                self.assertEqual(list(inspect.signature(call).parameters), wanted)
 
     def test_by_name(self):
         self.assertEqual(bench.pack(letters=[84]), [0, 1, 3])
         self.assertEqual(bench.unpack(bases=[3], n=1), [0, 1, 84])
+        self.assertEqual(bench.turn(bases=[3], n=1), [0, 1, 0])
+        self.assertEqual(bench.count(bases=[228], n=4, begin=1, end=3), [0, 4, 0, 1, 1, 0])
 
     def test_nothing_printed_read_or_imported(self):
         done = subprocess.run(

@@ -49,6 +49,32 @@ def bound_names(tree):
     return names
 
 
+def top_names(tree):
+    """Names that the file's top defines itself, imported ones not among them."""
+    names = []
+    for node in tree.body:
+        if isinstance(node, (ast.FunctionDef, ast.ClassDef)):
+            names.append(node.name)
+        elif isinstance(node, ast.Assign):
+            names += [target.id for target in node.targets]
+    return names
+
+
+def drawn_from(tree):
+    return [node for node in tree.body if isinstance(node, ast.ImportFrom)]
+
+
+def hidden_names(tree):
+    """Parameters and locals that are called like an import or a class of the file."""
+    taken = {alias.name for node in drawn_from(tree) for alias in node.names}
+    taken |= {node.name for node in tree.body if isinstance(node, ast.ClassDef)}
+    for node in ast.walk(tree):
+        if isinstance(node, ast.arg) and node.arg in taken:
+            yield node.arg
+        elif isinstance(node, ast.Name) and isinstance(node.ctx, ast.Store) and node.id in taken:
+            yield node.id
+
+
 def node_faults(node, bound):
     kind = node.__class__.__name__
     if kind not in NODES:
@@ -61,6 +87,12 @@ def node_faults(node, bound):
         yield "L10: a function of more than 40 lines"
     if isinstance(node, ast.Assign) and len(node.targets) > 1:
         yield "L6: more than one target"
+    if isinstance(node, ast.BinOp) and isinstance(node.op, ast.Pow):
+        if not (isinstance(node.right, ast.Constant) and 0 <= node.right.value <= 64):
+            yield "L27: an exponent that is not written"
+    if isinstance(node, ast.Compare) and any(isinstance(op, (ast.Is, ast.IsNot)) for op in node.ops):
+        if not all(isinstance(side, ast.Constant) for side in node.comparators):
+            yield "L20: is"
     if isinstance(node, ast.Name) and node.id not in bound and node.id not in BUILT_IN:
         yield "L8: " + node.id
     if isinstance(node, ast.Call) and isinstance(node.func, ast.Attribute):
@@ -82,6 +114,8 @@ def faults(text):
     bound = bound_names(tree)
     found += ["L12: " + name for name in bound if name.startswith("_") and not name.endswith("__")]
     found += ["L15: " + name for name in bound if name in dir(builtins) or name in BUILT_IN]
+    found += ["L15: " + name for name in hidden_names(tree)]
+    found += ["L15: twice at the top" for name in top_names(tree) if top_names(tree).count(name) > 1]
     for node in ast.walk(tree):
         found += [f"{fault}, line {getattr(node, 'lineno', 0)}" for fault in node_faults(node, bound)]
     return found
@@ -101,13 +135,30 @@ class Language(unittest.TestCase):
                 with self.subTest(path=path):
                     self.assertEqual(faults(file.read()), [])
 
+    def test_imports(self):
+        trees = {}
+        for path in package_files():
+            with open(path, encoding="utf-8") as file:
+                trees["genomereads." + os.path.basename(path)[:-3]] = ast.parse(file.read())
+        drawn = {}
+        for name, tree in trees.items():
+            drawn[name] = {node.module for node in drawn_from(tree)}
+            for node in drawn_from(tree):
+                for alias in node.names:
+                    self.assertIn(alias.name, top_names(trees[node.module]), "L16: from the file that defines it")
+        while drawn:
+            ends = [name for name in drawn if not drawn[name] & set(drawn)]
+            self.assertNotEqual(ends, [], "L16: files draw from one another")
+            drawn = {name: names for name, names in drawn.items() if name not in ends}
+
     def test_faults_are_seen(self):
         for text in (
             "import os\n", "from os import path\n", "x = 1 / 2\n", "x = 0.5\n", "x = y = 1\n", "x = open\n",
             "def f(x):\n    yield x\n", "def f(x):\n    assert x\n", "def f(x):\n    x.sort()\n", "# a type\n",
             "def f(x):\n    return {a for a in x}\n", "def f(x):\n    del x\n", "def f(_x):\n    return 1\n",
             "def f(id):\n    return id\n", "# \u00e9\n", "#" * 121 + "\n", "\n" * 401,
-            "def f():\n" + "    pass\n" * 40,
+            "def f():\n" + "    pass\n" * 40, "def f(n):\n    return 2 ** n\n", "def f(x):\n    return x is x\n",
+            "from genomereads.bench import a\n\n\ndef f(a):\n    return a\n", "X = 1\nX = 2\n",
         ):
             with self.subTest(text=text[:40]):
                 self.assertNotEqual(faults(text), [])

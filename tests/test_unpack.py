@@ -2,11 +2,8 @@
 
 import unittest
 
-from checking import CallCase, long_codes, packed_bytes
+from checking import GREATEST, LEAST, CallCase, long_codes, packed_bytes
 from genomereads.bench import pack, unpack
-
-LEAST = -2147483648
-GREATEST = 2147483647
 
 
 class Unpacked(CallCase):
