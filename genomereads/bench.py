@@ -2,6 +2,7 @@
 
 from genomereads.limits import MOST_BASES, outside
 from genomereads.packing import other_strand, read_bases, write_bases
+from genomereads.words import MOST_IN_WORD, words_of
 
 CAPITALS = (65, 67, 71, 84)
 BASE_OF_LETTER = {65: 0, 67: 1, 71: 2, 84: 3, 97: 0, 99: 1, 103: 2, 116: 3}
@@ -36,6 +37,23 @@ def count(bases, n, begin, end):
     for code in read_bases(bases, begin, end - begin):
         counts[code] += 1
     return answer(0, counts)
+
+
+def same(a, i, b, j, n):
+    if outside(i, 0, MOST_BASES) or outside(j, 0, MOST_BASES) or outside(n, 0, MOST_BASES):
+        return [-1]
+    equal = 0
+    for left, right in zip(read_bases(a, i, n), read_bases(b, j, n)):
+        if left == right:
+            equal += 1
+    return [equal]
+
+
+def words(bases, n, k):
+    if outside(n, 0, MOST_BASES) or outside(k, 1, MOST_IN_WORD):
+        return [-1]
+    found = words_of(read_bases(bases, 0, n), k)
+    return answer(len(found), found)
 
 
 def answer(first, part):

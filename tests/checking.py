@@ -27,6 +27,14 @@ def long_codes(n):
     return [(i * i + i // 7) % 4 for i in range(n)]
 
 
+def plain_words(codes, k):
+    # Each word by itself as a text of digits to the base 4.
+    digits = "".join(str(code) for code in codes)
+    other = "".join(str(3 - code) for code in reversed(codes))
+    n = len(codes)
+    return [min(int(digits[p:p + k], 4), int(other[n - k - p:n - p], 4)) for p in range(n - k + 1)]
+
+
 class CallCase(unittest.TestCase):
     maxDiff = 400
 

@@ -27,6 +27,9 @@ bench.turn([228], 3)
 bench.turn([], -1)
 bench.count([228], 4, 1, 3)
 bench.count([228], 4, 3, 1)
+bench.same([228], 0, [228], 1, 3)
+bench.words([228], 4, 2)
+bench.words([228], 4, 0)
 watching[0] = False
 if foreign or events:
     sys.exit(repr((foreign, events)))
@@ -40,6 +43,8 @@ class Interface(unittest.TestCase):
             (bench.unpack, ["bases", "n"]),
             (bench.turn, ["bases", "n"]),
             (bench.count, ["bases", "n", "begin", "end"]),
+            (bench.same, ["a", "i", "b", "j", "n"]),
+            (bench.words, ["bases", "n", "k"]),
         ):
             with self.subTest(call=call):
                 self.assertEqual(list(inspect.signature(call).parameters), wanted)
@@ -49,6 +54,8 @@ class Interface(unittest.TestCase):
         self.assertEqual(bench.unpack(bases=[3], n=1), [0, 1, 84])
         self.assertEqual(bench.turn(bases=[3], n=1), [0, 1, 0])
         self.assertEqual(bench.count(bases=[228], n=4, begin=1, end=3), [0, 4, 0, 1, 1, 0])
+        self.assertEqual(bench.same(a=[228], i=0, b=[228], j=0, n=4), [4])
+        self.assertEqual(bench.words(bases=[228], n=4, k=2), [3, 3, 1, 6, 1])
 
     def test_nothing_printed_read_or_imported(self):
         done = subprocess.run(
