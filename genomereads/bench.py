@@ -1,9 +1,10 @@
 """The calls: each takes lists and whole numbers and gives back one list of whole numbers."""
 
-from genomereads.limits import MOST_BASES, outside
+from genomereads.limits import MOST_BASES, MOST_TOLD, outside
 from genomereads.packing import other_strand, read_bases, write_bases
-from genomereads.words import MOST_IN_WORD, words_of
+from genomereads.words import MOST_IN_WINDOW, MOST_IN_WORD, least_places, stirred, words_of
 
+MOST_SHARED = 4096
 CAPITALS = (65, 67, 71, 84)
 BASE_OF_LETTER = {65: 0, 67: 1, 71: 2, 84: 3, 97: 0, 99: 1, 103: 2, 116: 3}
 
@@ -54,6 +55,26 @@ def words(bases, n, k):
         return [-1]
     found = words_of(read_bases(bases, 0, n), k)
     return answer(len(found), found)
+
+
+def minimizers(bases, n, k, w, most):
+    if outside(n, 0, MOST_BASES) or outside(k, 1, MOST_IN_WORD):
+        return [-1]
+    if outside(w, 1, MOST_IN_WINDOW) or outside(most, 0, MOST_TOLD):
+        return [-1]
+    found = words_of(read_bases(bases, 0, n), k)
+    places = least_places([stirred(word) for word in found], w)
+    return answer(len(places), places[:most])
+
+
+def shared(a, b):
+    if len(a) > MOST_SHARED or len(b) > MOST_SHARED:
+        return [-1]
+    # A dict is asked at once, where a list would be gone through for each number.
+    known = {}
+    for number in b:
+        known[number] = True
+    return [len([number for number in a if number in known])]
 
 
 def answer(first, part):

@@ -27,6 +27,15 @@ def long_codes(n):
     return [(i * i + i // 7) % 4 for i in range(n)]
 
 
+def mixed_codes(n, seed=1):
+    # As if by chance, and yet the same each time.
+    codes = []
+    for place in range(n):
+        seed = (seed * 1103515245 + 12345) % 2 ** 31
+        codes.append(seed // 2 ** 16 % 4)
+    return codes
+
+
 def plain_words(codes, k):
     # Each word by itself as a text of digits to the base 4.
     digits = "".join(str(code) for code in codes)

@@ -30,6 +30,10 @@ bench.count([228], 4, 3, 1)
 bench.same([228], 0, [228], 1, 3)
 bench.words([228], 4, 2)
 bench.words([228], 4, 0)
+bench.minimizers([228], 4, 2, 2, 1)
+bench.minimizers([228], 4, 2, 2, -1)
+bench.shared([1, 2], [2])
+bench.shared([1] * 4097, [])
 watching[0] = False
 if foreign or events:
     sys.exit(repr((foreign, events)))
@@ -45,6 +49,8 @@ class Interface(unittest.TestCase):
             (bench.count, ["bases", "n", "begin", "end"]),
             (bench.same, ["a", "i", "b", "j", "n"]),
             (bench.words, ["bases", "n", "k"]),
+            (bench.minimizers, ["bases", "n", "k", "w", "most"]),
+            (bench.shared, ["a", "b"]),
         ):
             with self.subTest(call=call):
                 self.assertEqual(list(inspect.signature(call).parameters), wanted)
@@ -56,6 +62,8 @@ class Interface(unittest.TestCase):
         self.assertEqual(bench.count(bases=[228], n=4, begin=1, end=3), [0, 4, 0, 1, 1, 0])
         self.assertEqual(bench.same(a=[228], i=0, b=[228], j=0, n=4), [4])
         self.assertEqual(bench.words(bases=[228], n=4, k=2), [3, 3, 1, 6, 1])
+        self.assertEqual(bench.minimizers(bases=[228], n=4, k=2, w=2, most=1), [2, 1, 0])
+        self.assertEqual(bench.shared(a=[1, 1, 2], b=[1]), [2])
 
     def test_nothing_printed_read_or_imported(self):
         done = subprocess.run(
