@@ -1,9 +1,12 @@
 """The calls: each takes lists and whole numbers and gives back one list of whole numbers."""
 
+from genomereads.distances import fewest_edits
 from genomereads.limits import MOST_BASES, MOST_TOLD, outside
 from genomereads.packing import other_strand, read_bases, write_bases
+from genomereads.qualities import GREATEST_QUALITY, best_stretch, first_other_byte
 from genomereads.words import MOST_IN_WINDOW, MOST_IN_WORD, least_places, stirred, words_of
 
+MOST_EDITED = 4096
 MOST_SHARED = 4096
 CAPITALS = (65, 67, 71, 84)
 BASE_OF_LETTER = {65: 0, 67: 1, 71: 2, 84: 3, 97: 0, 99: 1, 103: 2, 116: 3}
@@ -75,6 +78,21 @@ def shared(a, b):
     for number in b:
         known[number] = True
     return [len([number for number in a if number in known])]
+
+
+def edits(a, n, b, m):
+    if outside(n, 0, MOST_EDITED) or outside(m, 0, MOST_EDITED):
+        return [-1]
+    return [fewest_edits(read_bases(a, 0, n), read_bases(b, 0, m))]
+
+
+def trim(qualities, least):
+    if outside(least, 0, GREATEST_QUALITY):
+        return [-1]
+    other = first_other_byte(qualities)
+    if other < len(qualities):
+        return [other + 1]
+    return answer(0, best_stretch(qualities, least))
 
 
 def answer(first, part):

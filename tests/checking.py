@@ -44,6 +44,17 @@ def plain_words(codes, k):
     return [min(int(digits[p:p + k], 4), int(other[n - k - p:n - p], 4)) for p in range(n - k + 1)]
 
 
+def plain_edits(a, b):
+    # The table number by number.
+    row = list(range(len(b) + 1))
+    for x in a:
+        before = row
+        row = [before[0] + 1]
+        for place, y in enumerate(b):
+            row.append(min(before[place + 1] + 1, row[place] + 1, before[place] + (x != y)))
+    return row[-1]
+
+
 class CallCase(unittest.TestCase):
     maxDiff = 400
 

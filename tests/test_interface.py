@@ -34,6 +34,10 @@ bench.minimizers([228], 4, 2, 2, 1)
 bench.minimizers([228], 4, 2, 2, -1)
 bench.shared([1, 2], [2])
 bench.shared([1] * 4097, [])
+bench.edits([228], 4, [27], 3)
+bench.edits([], -1, [27], 3)
+bench.trim([40, 50], 9)
+bench.trim([40, 32], 9)
 watching[0] = False
 if foreign or events:
     sys.exit(repr((foreign, events)))
@@ -51,6 +55,8 @@ class Interface(unittest.TestCase):
             (bench.words, ["bases", "n", "k"]),
             (bench.minimizers, ["bases", "n", "k", "w", "most"]),
             (bench.shared, ["a", "b"]),
+            (bench.edits, ["a", "n", "b", "m"]),
+            (bench.trim, ["qualities", "least"]),
         ):
             with self.subTest(call=call):
                 self.assertEqual(list(inspect.signature(call).parameters), wanted)
@@ -64,6 +70,8 @@ class Interface(unittest.TestCase):
         self.assertEqual(bench.words(bases=[228], n=4, k=2), [3, 3, 1, 6, 1])
         self.assertEqual(bench.minimizers(bases=[228], n=4, k=2, w=2, most=1), [2, 1, 0])
         self.assertEqual(bench.shared(a=[1, 1, 2], b=[1]), [2])
+        self.assertEqual(bench.edits(a=[228], n=4, b=[], m=0), [4])
+        self.assertEqual(bench.trim(qualities=[33, 50], least=9), [0, 2, 1, 2])
 
     def test_nothing_printed_read_or_imported(self):
         done = subprocess.run(
