@@ -2,13 +2,13 @@
 
 from genomereads.distances import fewest_edits
 from genomereads.limits import MOST_BASES, MOST_TOLD, outside
-from genomereads.packing import other_strand, read_bases, write_bases
+from genomereads.packing import CAPITALS, other_strand, read_bases, write_bases
 from genomereads.qualities import GREATEST_QUALITY, best_stretch, first_other_byte
+from genomereads.steps import Genome
 from genomereads.words import MOST_IN_WINDOW, MOST_IN_WORD, least_places, stirred, words_of
 
 MOST_EDITED = 4096
 MOST_SHARED = 4096
-CAPITALS = (65, 67, 71, 84)
 BASE_OF_LETTER = {65: 0, 67: 1, 71: 2, 84: 3, 97: 0, 99: 1, 103: 2, 116: 3}
 
 
@@ -93,6 +93,19 @@ def trim(qualities, least):
     if other < len(qualities):
         return [other + 1]
     return answer(0, best_stretch(qualities, least))
+
+
+def genome(bases, n, steps):
+    if outside(n, 0, MOST_BASES):
+        return [-1]
+    made_of = Genome(read_bases(bases, 0, n))
+    told = []
+    for place, step in enumerate(steps):
+        part = made_of.make(step)
+        if place > 0:
+            told.append(len(part))
+        told.extend(part)
+    return told
 
 
 def answer(first, part):

@@ -57,3 +57,15 @@ def fewest_edits(a, b):
             step = block.advance(base, step)
         fewest += step
     return fewest
+
+
+def near_ends(codes, piece, k):
+    block = Block(piece)
+    fewest = len(piece)
+    ends = []
+    for place, base in enumerate(codes):
+        # Above the first row nothing changes: what is compared may begin anywhere, and what stands ahead is free.
+        fewest += block.advance(base, 0)
+        if fewest <= k:
+            ends.append(place + 1)
+    return ends

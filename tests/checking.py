@@ -2,6 +2,8 @@
 
 import unittest
 
+from genomereads.bench import genome
+
 LEAST = -2147483648
 GREATEST = 2147483647
 
@@ -14,6 +16,14 @@ class Sealed(list):
 
     __setitem__ = __delitem__ = __iadd__ = __imul__ = refuse
     append = clear = extend = insert = pop = remove = reverse = sort = refuse
+
+
+def copied(value):
+    return [copied(part) for part in value] if isinstance(value, list) else value
+
+
+def sealed(value):
+    return Sealed(sealed(part) for part in value) if isinstance(value, list) else value
 
 
 def packed_bytes(codes):
@@ -60,7 +70,7 @@ class CallCase(unittest.TestCase):
 
     def check(self, call, arguments, wanted):
         """The answer, its kinds, what was handed in, and the same once more."""
-        before = [list(a) if isinstance(a, list) else a for a in arguments]
+        before = copied(arguments)
         first = call(*arguments)
         self.assertIs(type(first), list)
         self.assertTrue(all(type(number) is int for number in first), "not all are whole numbers")
@@ -69,6 +79,50 @@ class CallCase(unittest.TestCase):
         first.append(7)
         first[0] = 99
         self.assertEqual(call(*arguments), wanted)
-        sealed = [Sealed(a) if isinstance(a, list) else a for a in arguments]
-        self.assertEqual(call(*sealed), wanted)
+        self.assertEqual(call(*[sealed(argument) for argument in arguments]), wanted)
         self.assertEqual(arguments, before)
+
+
+def codes_of(letters):
+    return [b"ACGT".index(letter) for letter in letters]
+
+
+def find_step(piece, most=65536):
+    return [1, len(piece), most] + packed_bytes(piece)
+
+
+def longest_step(piece, begin=0):
+    return [2, len(piece), begin] + packed_bytes(piece)
+
+
+def near_step(piece, k, most=65536):
+    return [3, len(piece), k, most] + packed_bytes(piece)
+
+
+def lay_step(a, b, scores, most=65536):
+    return [4, len(a), len(b)] + list(scores) + [most] + packed_bytes(a) + packed_bytes(b)
+
+
+def pile_step(read, place, qualities, way):
+    return [5, len(read), place, len(way)] + packed_bytes(read) + list(qualities) + list(way)
+
+
+def said_step(begin, end):
+    return [6, begin, end]
+
+
+def depth_step(begin, end):
+    return [7, begin, end]
+
+
+class GenomeCase(CallCase):
+    def steps(self, codes, steps, parts):
+        """A genome of these codes, the steps made of it, and the part of each."""
+        wanted = []
+        for place, part in enumerate(parts):
+            wanted += part if place == 0 else [len(part)] + part
+        with self.subTest(steps=[step[:12] for step in steps[:4]]):
+            self.check(genome, [packed_bytes(codes), len(codes), [list(step) for step in steps]], wanted)
+
+    def step(self, codes, step, part):
+        self.steps(codes, [step], [part])

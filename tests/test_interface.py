@@ -38,6 +38,10 @@ bench.edits([228], 4, [27], 3)
 bench.edits([], -1, [27], 3)
 bench.trim([40, 50], 9)
 bench.trim([40, 32], 9)
+bench.genome([228], 4, [[1, 1, 9, 0], [2, 1, 0, 0], [3, 1, 0, 9, 0], [4, 1, 1, 2, 1, 1, 1, 9, 0, 0]])
+bench.genome([228], 4, [[5, 1, 0, 1, 0, 50, 77], [6, 0, 4], [7, 0, 4]])
+bench.genome([228], 4, [[1, 0, 9], [2, 0, 0], [3, 0, 0, 9], [4, 0, 0, 2, 1, 1, 1, -1]])
+bench.genome([228], 4, [[5, 0, 5, 0], [6, 1, 0], [7, 0, 0]])
 watching[0] = False
 if foreign or events:
     sys.exit(repr((foreign, events)))
@@ -57,6 +61,7 @@ class Interface(unittest.TestCase):
             (bench.shared, ["a", "b"]),
             (bench.edits, ["a", "n", "b", "m"]),
             (bench.trim, ["qualities", "least"]),
+            (bench.genome, ["bases", "n", "steps"]),
         ):
             with self.subTest(call=call):
                 self.assertEqual(list(inspect.signature(call).parameters), wanted)
@@ -72,6 +77,7 @@ class Interface(unittest.TestCase):
         self.assertEqual(bench.shared(a=[1, 1, 2], b=[1]), [2])
         self.assertEqual(bench.edits(a=[228], n=4, b=[], m=0), [4])
         self.assertEqual(bench.trim(qualities=[33, 50], least=9), [0, 2, 1, 2])
+        self.assertEqual(bench.genome(bases=[228], n=4, steps=[[1, 1, 10, 0], [7, 0, 4]]), [1, 0, 3, 0, 0, 0])
 
     def test_nothing_printed_read_or_imported(self):
         done = subprocess.run(
